@@ -1,14 +1,13 @@
 """A program's text read into a program, or refused."""
 
 from blockfall.errors import Full, NoBlock, NoBox, NoPlace, NoRow, Open, TooLong, Twice
-from blockfall.words import expression, is_name, is_number, names_in
+from blockfall.words import STATEMENTS, expression, is_name, is_number, names_in
 
 MOST_ROWS = 120
 MOST_BOXES = 4
 MOST_BLOCKS = 10
 MOST_STATEMENTS = 8
 MOST_IN_TABLE = 6
-STATEMENTS = ("put", "say", "ask")
 CONDITION_SIGNS = ("<", "=")
 
 

@@ -5,6 +5,7 @@ from blockfall.errors import NoRow
 LETTERS = "abcdefghijklmnopqrstuvwxyz"
 FIGURES = "0123456789"
 TAKEN_WORDS = ("box", "block", "put", "say", "ask", "go", "if", "else", "table", "stop")
+STATEMENTS = ("put", "say", "ask")
 LONGEST_NAME = 8
 LONGEST_NUMBER = 3
 LONGEST_EXPRESSION = 60

@@ -4,19 +4,7 @@ import unittest
 
 from blockfall.reader import read
 from blockfall.words import expression
-
-
-def text_of(*rows):
-    return "\n".join(rows)
-
-
-def lists_in(value):
-    """All lists within a value, itself too, each as often as it stands there."""
-    found = [value] if isinstance(value, list) else []
-    if isinstance(value, (list, tuple)):
-        for part in value:
-            found += lists_in(part)
-    return found
+from helping import lists_in, text_of
 
 
 class ReaderTest(unittest.TestCase):
