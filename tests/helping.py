@@ -1,13 +1,28 @@
-"""What several tests share: texts, programs made by a seed, and runs reckoned from the text itself."""
+"""What several tests share: texts, programs made by a seed, runs reckoned from the text itself, and listed costs."""
 
 import itertools
 import random
+
+from blockfall.reader import read
+from blockfall.runs import ways
 
 FIGURE_LIMIT = 10 ** 30 - 1
 
 
 def text_of(*rows):
     return "\n".join(rows)
+
+
+# Counts down from what is asked for.
+# Ways: begin to check, loop to check, check to loop, check to pick, pick to done, pick to begin.
+COUNTING = text_of(
+    "box a 0",
+    "block begin", "ask a", "go check",
+    "block loop", "say a", "put a a-1", "go check",
+    "block check", "if 0 < a loop else pick",
+    "block pick", "say 100", "table a done begin",
+    "block done", "stop",
+)
 
 
 def lists_in(value):
@@ -132,6 +147,26 @@ def run_rows_by_text(text, order, numbers, bound):
             said.append(value)
 
 
+def listed_cost(program, order, counted):
+    """An order's cost, way by way."""
+    jumps = 0
+    for (place, side, to), count in zip(ways(program), counted):
+        stands_next = order[order.index(place) + 1:][:1] == (to,)
+        if program[1][place][2][0] == "table" or not stands_next:
+            jumps += count
+    return jumps
+
+
+def listed_gains(program, counted):
+    """A row for each block: what each other one gains behind it."""
+    many = len(program[1])
+    gained = [[0] * many for place in range(many)]
+    for (place, side, to), count in zip(ways(program), counted):
+        if program[1][place][2][0] != "table":
+            gained[place][to] += count
+    return gained
+
+
 class Maker:
     """Makes programs' texts and counts, the same ones for the same seed."""
 
@@ -186,3 +221,12 @@ class Maker:
         rest = list(range(1, many))
         self.chance.shuffle(rest)
         return (0,) + tuple(rest)
+
+
+def some_programs(seed, turns, most):
+    """Programs of 1 to so many blocks, with counts: small ones, so that many orders cost alike, and great ones."""
+    maker = Maker(seed)
+    for turn in range(turns):
+        program = read(maker.text(1 + turn % most, 0))
+        greatest = (0, 1, 2, 5, 100, FIGURE_LIMIT)[turn // most % 6]
+        yield program, maker.counted(len(ways(program)), greatest)

@@ -8,33 +8,14 @@ from blockfall.best import best, bound_of, cost, is_right, paper
 from blockfall.laying import laid, run_rows
 from blockfall.reader import read
 from blockfall.runs import counts, ways
-from helping import FIGURE_LIMIT, Maker, kinds_of, lists_in, orders_of, text_of
+from helping import (
+    FIGURE_LIMIT, Maker, kinds_of, listed_cost, listed_gains, lists_in, orders_of, some_programs, text_of)
 
 # Ways: (0, 0, 1), (0, 1, 2), (1, 0, 2), (2, 0, 1), (2, 1, 0).
 THREE = text_of("block x", "if 1 < 2 y else z", "block y", "go z", "block z", "if 1 = 2 y else x")
 # Ways: (0, 0, 1), (0, 1, 1), (1, 0, 2), (1, 1, 2), (1, 2, 0), (2, 0, 0), (3, 0, 1).
 KINDS = text_of("block w", "if 1 < 2 x else x", "block x", "table 1 y y w", "block y", "go w", "block z", "go x")
 LONE = "block x\ngo x"
-
-
-def listed_cost(program, order, counted):
-    """An order's cost, way by way."""
-    jumps = 0
-    for (place, side, to), count in zip(ways(program), counted):
-        stands_next = order[order.index(place) + 1:][:1] == (to,)
-        if program[1][place][2][0] == "table" or not stands_next:
-            jumps += count
-    return jumps
-
-
-def listed_gains(program, counted):
-    """A row for each block: what each other one gains behind it."""
-    many = len(program[1])
-    gained = [[0] * many for place in range(many)]
-    for (place, side, to), count in zip(ways(program), counted):
-        if program[1][place][2][0] != "table":
-            gained[place][to] += count
-    return gained
 
 
 def listed_paper(program, counted):
@@ -49,15 +30,6 @@ def listed_paper(program, counted):
             gain = sum(gained[one][other] for one, other in zip(order, order[1:]))
             told[pair] = max(gain, told.get(pair, 0))
     return sorted((blocks, last, gain) for (blocks, last), gain in told.items())
-
-
-def some_programs(seed, turns, most):
-    """Programs of 1 to so many blocks, with counts: small ones, so that many orders cost alike, and great ones."""
-    maker = Maker(seed)
-    for turn in range(turns):
-        program = read(maker.text(1 + turn % most, 0))
-        greatest = (0, 1, 2, 5, 100, FIGURE_LIMIT)[turn // most % 6]
-        yield program, maker.counted(len(ways(program)), greatest)
 
 
 class CostTest(unittest.TestCase):

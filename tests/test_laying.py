@@ -6,21 +6,12 @@ import unittest
 from blockfall.laying import laid, run_rows
 from blockfall.reader import read
 from blockfall.runs import run
-from helping import FIGURE_LIMIT, Maker, kinds_of, lists_in, orders_of, run_rows_by_text, text_of
+from helping import COUNTING, FIGURE_LIMIT, Maker, kinds_of, lists_in, orders_of, run_rows_by_text, text_of
 
 ONE, TWO = ("number", 1), ("number", 2)
 A = ("box", "a")
 SAY_ONE, SAY_TWO = ("say", ONE), ("say", TWO)
 STOP = ("stop",)
-# Counts down from what is asked for; every order of its five blocks is laid and run below.
-COUNTING = text_of(
-    "box a 0",
-    "block begin", "ask a", "go check",
-    "block loop", "say a", "put a a-1", "go check",
-    "block check", "if 0 < a loop else pick",
-    "block pick", "say 100", "table a done begin",
-    "block done", "stop",
-)
 
 
 class LaidTest(unittest.TestCase):
