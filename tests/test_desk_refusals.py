@@ -87,13 +87,8 @@ class RefusalTest(unittest.TestCase):
 class NoFormTest(RefusalTest):
     def test_rows_of_no_form(self):
         for row in OF_NO_FORM:
-            self.refuses(Desk(), row, "NoForm")
-            self.refuses(reading_desk(LINKED), row, "NoForm")
-
-    def test_nothing_is_changed(self):
-        for state in ("new", "linked and run", "best"):
-            for row in OF_NO_FORM[::7] + ("row a\nb", "clear\n", "read\n", "run 1000", "order X", "laid", "best "):
-                self.check(states()[state], row, "NoForm")
+            self.check(Desk, row, "NoForm")
+            self.check(states()["linked and run"], row, "NoForm")
 
     def test_in_every_state(self):
         for make in states().values():
